@@ -10,12 +10,17 @@ STATEMENTS = (
     ast.Assign, ast.AugAssign, ast.If, ast.While, ast.For, ast.Return, ast.Break, ast.Continue, ast.Pass, ast.Raise,
     ast.Try, ast.Expr, ast.FunctionDef,
 )
-OWN_METHODS = ("append", "clear", "extend", "get", "index", "insert", "items", "pop", "remove", "reverse")
+OWN_METHODS = (
+    "append", "bit_length", "clear", "extend", "get", "index", "insert", "items", "pop", "remove", "reverse",
+)
 PYTHONS_OWN = (
     "len", "range", "enumerate", "zip", "min", "max", "sum", "abs", "sorted", "reversed", "int", "list", "tuple",
     "dict", "any", "all", "divmod", "True", "False", "None",
 )
-WORDS = re.compile(r"\b(type|typing|typing_extensions|enum|Enum|Flag|Generic|Protocol|ABC|namedtuple|overload)\b")
+WORDS = re.compile(
+    r"\b(type|typing|typing_extensions|enum|Enum|IntEnum|StrEnum|Flag|IntFlag|Generic|Protocol|ABC|ABCMeta|namedtuple"
+    r"|NamedTuple|TypedDict|TYPE_CHECKING|abstractmethod)\b|dataclass|overload|contextmanager"
+)
 
 
 def files():
@@ -101,6 +106,13 @@ class Language(unittest.TestCase):
             for node in ast.walk(tree):
                 if isinstance(node, ast.Attribute):
                     self.assertIn(node.attr, own)
+
+    def test_comprehensions(self):
+        for tree in self.trees.values():
+            for node in ast.walk(tree):
+                if isinstance(node, ast.ListComp):
+                    self.assertEqual(len(node.generators), 1)
+                    self.assertLessEqual(len(node.generators[0].ifs), 1)
 
     def test_nothing_but_whole_numbers(self):
         for tree in self.trees.values():

@@ -9,6 +9,7 @@ LEAST_FACTS = 2
 MOST_FACTS = 5
 MOST_DEEDS = 6
 MOST_EVENTS = 3
+MOST_STEPS = 40
 
 NO_SUCH = -2
 NEED_NOT_SO = -6
@@ -20,6 +21,7 @@ def is_within(part, whole):
     return (part & whole) == part
 
 
+# An aim (a, b) is met just as the need of a rule is, which stands first in it.
 def is_met(rule, state):
     return (state & rule[0]) == rule[1]
 
@@ -96,10 +98,56 @@ class Desk:
     def do_deed(self, i):
         if i >= len(self.deeds):
             return [NO_SUCH]
-        if not is_met(self.deeds[i], self.state):
+        if not self.can_be_done(i, self.state):
             return [NEED_NOT_SO]
-        self.state = self.behind_events(made_by(self.deeds[i], self.state))
+        self.state = self.behind_choice(i, self.state)
         return [self.state]
+
+    def wait(self, steps):
+        if steps > MOST_STEPS:
+            return [NOT_AS_TOLD]
+        self.state = self.behind_waiting(steps)
+        return [self.state]
+
+    def by_itself(self, steps):
+        if steps > MOST_STEPS:
+            return [NOT_AS_TOLD]
+        return [self.behind_waiting(steps)]
+
+    def play(self, choices):
+        # A number that is no choice is refused wherever it stands, behind one that can't be done too.
+        for choice in choices:
+            if not self.is_choice(choice):
+                return [NO_SUCH]
+        state = self.state
+        done = 0
+        for choice in choices:
+            if not self.can_be_done(choice, state):
+                break
+            state = self.behind_choice(choice, state)
+            done += 1
+        return [state, done]
+
+    # Waiting is the choice behind all deeds: it needs nothing and makes nothing by itself.
+    def waiting(self):
+        return len(self.deeds)
+
+    def is_choice(self, choice):
+        return choice <= self.waiting()
+
+    def can_be_done(self, choice, state):
+        return choice == self.waiting() or is_met(self.deeds[choice], state)
+
+    def behind_choice(self, choice, state):
+        if choice != self.waiting():
+            state = made_by(self.deeds[choice], state)
+        return self.behind_events(state)
+
+    def behind_waiting(self, steps):
+        state = self.state
+        for step in range(steps):
+            state = self.behind_choice(self.waiting(), state)
+        return state
 
     # An event looks at what the events ahead of it have made, so the state is carried along.
     def behind_events(self, state):

@@ -1,6 +1,7 @@
 """The interface: a list of calls on a new desk, and the list of what they answer."""
 
 from whatcanbedesk.desk import Desk, take_out, told_rule
+from whatcanbedesk.rows import can_be, fewest_steps, lost_by, never_done, reached, row_back, row_to_aim, settled_facts
 
 BEGIN = 0
 DEED = 1
@@ -13,6 +14,16 @@ SET_TO = 7
 NOW = 8
 ABLE = 9
 DO = 10
+WAIT = 11
+REACH = 12
+CANBE = 13
+FEWEST = 14
+ROW = 15
+UNDO = 16
+LOST = 17
+SETTLED = 18
+NEVER = 19
+BYITSELF = 20
 
 NOT_BEGUN = -11
 
@@ -31,7 +42,7 @@ def answer_over_rules(desk, call, given):
     return told_rule(desk.events, given[0])
 
 
-def answer_over_states(desk, call, given):
+def answer_over_steps(desk, call, given):
     if call == SET_TO:
         return desk.set_to(given[0])
     if call == NOW:
@@ -40,8 +51,29 @@ def answer_over_states(desk, call, given):
         return desk.able()
     if call == DO:
         return desk.do_deed(given[0])
-    # The calls that are not built yet tell nothing rather than something wrong.
-    return []
+    if call == WAIT:
+        return desk.wait(given[0])
+    if call == BYITSELF:
+        return desk.by_itself(given[0])
+    return desk.play(given)
+
+
+def answer_over_rows(desk, call, given):
+    if call == REACH:
+        return reached(desk)
+    if call == CANBE:
+        return can_be(desk, given)
+    if call == FEWEST:
+        return fewest_steps(desk, given)
+    if call == ROW:
+        return row_to_aim(desk, given)
+    if call == UNDO:
+        return row_back(desk, given[0])
+    if call == LOST:
+        return lost_by(desk, given[0])
+    if call == SETTLED:
+        return settled_facts(desk)
+    return never_done(desk)
 
 
 def answer_of(desk, call, given):
@@ -51,7 +83,9 @@ def answer_of(desk, call, given):
         return [NOT_BEGUN]
     if call <= EVENTIS:
         return answer_over_rules(desk, call, given)
-    return answer_over_states(desk, call, given)
+    if REACH <= call <= NEVER:
+        return answer_over_rows(desk, call, given)
+    return answer_over_steps(desk, call, given)
 
 
 def answers(calls):
